@@ -1,0 +1,1 @@
+"""Foldvat: strips folded on one another, dipped a few layers deep, and opened again."""
