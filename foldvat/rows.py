@@ -8,17 +8,22 @@ however long the strip is.
 A turn moves all as a fold at line 0 does that nothing meets: within the program it is one.
 """
 
-from foldvat.errors import NoColumn, NoPlaces, NoRow
+from foldvat.errors import NoColumn, NoNumber, NoPlaces, NoRow
 
 MOST_PLACES = 10 ** 30
 MOST_DEEDS = 40
 FOLDS = ("over", "under")
 
 
+def is_from(thing, least):
+    """Whether a thing, anything, is a whole number from least on."""
+    # Asked of the exact class: a truth is an int too, and an own class may compare as it likes.
+    return type(thing) is int and thing >= least
+
+
 def is_among(thing, least, most):
     """Whether a thing, anything, is a whole number from least to most."""
-    # Asked of the exact class: a truth is an int too, and an own class may compare as it likes.
-    return type(thing) is int and least <= thing <= most
+    return is_from(thing, least) and thing <= most
 
 
 def is_listing(thing):
@@ -38,6 +43,23 @@ def check_column(ground, column):
         raise NoColumn("nothing lies at such a column")
 
 
+def check_number(number, most):
+    """Refuses what is no number from 0 to most."""
+    if not is_among(number, 0, most):
+        raise NoNumber("there is no such number here")
+
+
+def check_nth(number):
+    """Refuses what can't be asked for as the so-manieth, from 0 on."""
+    if not is_from(number, 0):
+        raise NoNumber("the so-manieth is a whole number from 0 on")
+
+
+def shift_of(ground, line):
+    """By how many columns all is moved behind a fold at this line, so that the least column is 0."""
+    return max(0, ground[0] - 2 * line)
+
+
 def layers_at(ground, column):
     """How many layers lie at a column, none where it lies beyond the ground."""
     width, steps = ground
@@ -49,7 +71,7 @@ def layers_at(ground, column):
 def ground_behind(ground, line):
     """The ground behind a fold at this line, or behind a turn where it is 0."""
     width, steps = ground
-    shift = max(0, width - 2 * line)
+    shift = shift_of(ground, line)
     last = (width, -layers_at(ground, width - 1))
     changes = {}
     # At the line itself all ends now, where the width tells it: no step is kept there.

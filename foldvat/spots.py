@@ -5,8 +5,8 @@ A run is some layers that lie one behind the other in one pile, be it a single p
 it lies the other way up than it did at first. No deed parts it again, so it is carried as a whole.
 """
 
-from foldvat.errors import NoDepth, NoNumber, NoPlace
-from foldvat.rows import check_column, folds_of, grounds_of, is_among, layers_at
+from foldvat.errors import NoDepth, NoPlace
+from foldvat.rows import check_column, check_number, folds_of, grounds_of, is_among, layers_at, shift_of
 
 
 def check_place(places, place):
@@ -29,14 +29,14 @@ def carried(run, fold, ground):
         beneath += met
     else:
         above += met
-    return (column + max(0, ground[0] - 2 * line), above, beneath, turned)
+    return (column + shift_of(ground, line), above, beneath, turned)
 
 
 def carried_back(at, fold, ground):
     """Where a layer that lies at (column, depth) behind a fold lay ahead of it, on this ground."""
     column, depth = at
     line, over = fold
-    kept = column - max(0, ground[0] - 2 * line)
+    kept = column - shift_of(ground, line)
     mirrored = 2 * line - 1 - kept
     staying = layers_at(ground, kept)
     riding = layers_at(ground, mirrored)
@@ -90,8 +90,7 @@ def place_at(places, row, column, depth):
 def run_now(places, row, deeds, column):
     """Where the pile that lay at a column behind so many deeds stands now, as a run."""
     grounds = grounds_of(places, row)
-    if not is_among(deeds, 0, len(row)):
-        raise NoNumber("the row has not so many deeds")
+    check_number(deeds, len(row))
     check_column(grounds[deeds], column)
     return runs_of((column, 0, 0, False), folds_of(row)[deeds:], grounds[deeds:])[-1]
 

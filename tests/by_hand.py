@@ -60,6 +60,23 @@ def no_whole_numbers(least, most):
     return neither_whole_nor_told() + [least - 1, least - 2, -10 ** 39, most + 1, most + 2, 10 ** 39]
 
 
+def no_rows_of_five():
+    """Things that are no row of a strip of five places."""
+    words = ["Over", "over ", "", "fold", "open", "up", b"over", None, 1, True, ("over",), AlikeToAll(),
+             Stubborn(), Pretender(str)]
+    deeds = [(word, 1) for word in words] + [(word,) for word in words] + [("turning",), (b"turn",)]
+    deeds += [(), [], ("over",), ("under",), ("turn", 1), ("turn", None), ("turn", "turn"), ("over", 1, 1)]
+    deeds += [("under", 1, None), (1, "over"), ("over", (1,)), ("over", [1]), (("over", 1),), "turn", "over", "o1"]
+    deeds += [{"over": 1}, {"turn"}, {"turn": 1}, ("open",), ("dip", "above", 1, 0, 0)]
+    deeds += neither_whole_nor_told()
+    deeds += [(word, line) for word in ("over", "under") for line in no_whole_numbers(1, 4)]
+    things = [[deed] for deed in deeds] + [(("turn",), deed) for deed in deeds]
+    things += ["turn", "over", "", b"", ("turn",), ("over", 1), ["turn"], {("turn",)}, {("turn",): 1}, {0: ("turn",)}]
+    things += [iter([]), (deed for deed in ()), range(0), Pretender(list), Pretender(tuple)]
+    things += [thing for thing in neither_whole_nor_told() if type(thing) not in (list, tuple)]
+    return things + [(1,), [1], [[]], [None]]
+
+
 def flat(places):
     return {place: [(place, True)] for place in range(places)}
 
@@ -204,6 +221,11 @@ def long_cases():
         yield LONGEST - seed * 10 ** 28 - seed, wandering(LONGEST - seed * 10 ** 28 - seed, 40, seed)
 
 
+def widened(row, size):
+    """The row at lines that are so many times as far."""
+    return [deed if deed[0] == "turn" else (deed[0], deed[1] * size) for deed in row]
+
+
 def forms(row):
     """The row, its list and its deeds written as lists and as tuples, mixed."""
     found = []
@@ -211,3 +233,80 @@ def forms(row):
         found.append(outer([inner(deed) for deed in row]))
     found.append([list(deed) if number % 2 else tuple(deed) for number, deed in enumerate(row)])
     return found
+
+
+def chosen(choice, pick):
+    """One of some things."""
+    return choice[pick(len(choice))]
+
+
+def tall(piles):
+    return max(len(pile) for pile in piles.values())
+
+
+def bends(places, piles):
+    """What the bend of each place but the last one is."""
+    lies = spots(piles)
+    found = []
+    for place in range(places - 1):
+        one, other = lies[place], lies[place + 1]
+        if one[0] != other[0]:
+            found.append("flat")
+        else:
+            upper = one if one[1] < other[1] else other
+            found.append("dale" if upper[3] == "down" else "hill")
+    return found
+
+
+def pairs_passing(places, piles, line):
+    lies = spots(piles)
+    pairs = [{lies[place][0], lies[place + 1][0]} for place in range(places - 1)]
+    return pairs.count({line - 1, line})
+
+
+def dyed(piles, dip):
+    """The places that take a dip."""
+    side, depth, first, last = dip
+    found = set()
+    for column in range(first, last + 1):
+        pile = piles[column] if side == "above" else piles[column][::-1]
+        found |= {place for place, _ in pile[:depth]}
+    return found
+
+
+def all_dips(piles):
+    """Each dip of small piles, up to one layer deeper than all."""
+    for side in ("above", "below"):
+        for depth in range(1, tall(piles) + 2):
+            for first in range(len(piles)):
+                for last in range(first, len(piles)):
+                    yield (side, depth, first, last)
+
+
+def some_dip(piles, pick):
+    first = pick(len(piles))
+    return (("above", "below")[pick(2)], 1 + pick(tall(piles) + 1), first, first + pick(len(piles) - first))
+
+
+def some_vat(places, row, pick):
+    """A vat of small piles, and the marks of all places."""
+    courses_of = courses(places, row)
+    dips = []
+    for _ in range(1 + pick(3)):
+        deeds = pick(len(row) + 1)
+        dips.append((deeds, some_dip(courses_of[deeds], pick)))
+    if pick(6) == 0:
+        dips[-1] = dips[0]
+    return (row, dips), marks(places, (row, dips))
+
+
+def marks(places, vat):
+    """The mark of each place of a small strip."""
+    courses_of = courses(places, vat[0])
+    taken = [dyed(courses_of[deeds], dip) for deeds, dip in vat[1]]
+    return [tuple(number for number, those in enumerate(taken) if place in those) for place in range(places)]
+
+
+def all_marks(many):
+    """Each mark of so many dips, rising."""
+    return sorted(tuple(number for number in range(many) if choice >> number & 1) for choice in range(2 ** many))

@@ -35,6 +35,13 @@ INTERFACE = {
              "stretches": "places row", "by_layers": "places row"},
     "spots": {"spot": "places row place", "way_of": "places row place", "place_at": "places row column depth",
               "run_now": "places row deeds column", "line_to": "places row place other"},
+    "bends": {"bend": "places row place", "passing": "places row line", "bends": "places row",
+              "bends_below": "places row number", "nth_bend": "places row kind number"},
+    "dips": {"is_dip": "places row thing", "takes": "places row dip place", "taken": "places row dip"},
+    "counts": {"taken_below": "places row dip number", "nth_taken": "places row dip number",
+               "looks": "places row dip place many"},
+    "vats": {"is_vat": "places thing", "marks": "places vat", "marks_below": "places vat number",
+             "first_marked": "places vat mark", "are_alike": "places vat one other"},
 }
 
 
@@ -145,9 +152,35 @@ class Code(unittest.TestCase):
                     self.assertNotIn(node.id, taken, file.name)
 
     def test_methods_of_builtin_values(self):
+        own = {told.name for _, node in nodes(ast.ClassDef) for told in node.body if isinstance(told, ast.FunctionDef)}
+        self.assertEqual(own & METHODS, {"__init__"})
         for name, node in nodes(ast.Call):
             if isinstance(node.func, ast.Attribute):
-                self.assertIn(node.func.attr, METHODS, name)
+                self.assertIn(node.func.attr, METHODS | own, name)
+
+    def test_sets_are_only_made_to_be_sorted_or_measured(self):
+        for name, node in nodes((ast.Set, ast.SetComp)):
+            self.fail((name, node.lineno))
+        let = [node.args[0] for _, node in nodes(ast.Call)
+               if isinstance(node.func, ast.Name) and node.func.id in ("sorted", "len")]
+        let = {ast.dump(node, include_attributes=True) for node in let}
+        for name, node in nodes(ast.Call):
+            if isinstance(node.func, ast.Name) and node.func.id == "set":
+                self.assertIn(ast.dump(node, include_attributes=True), let, name)
+
+    def test_nothing_is_imported_in_a_ring(self):
+        ahead = {file.stem: set() for file in FILES}
+        for name, node in nodes(ast.ImportFrom):
+            if node.module.startswith("foldvat."):
+                ahead[name[:-3]].add(node.module.split(".")[1])
+        while ahead:
+            free = [stem for stem, others in ahead.items() if not others]
+            self.assertTrue(free, ahead)
+            ahead = {stem: others - set(free) for stem, others in ahead.items() if stem not in free}
+
+    def test_lambdas(self):
+        lines = [(name, node.lineno) for name, node in nodes(ast.Lambda)]
+        self.assertEqual(len(lines), len(set(lines)))
 
 
 class Interface(unittest.TestCase):
@@ -159,6 +192,14 @@ class Interface(unittest.TestCase):
                 self.assertTrue(inspect.isfunction(found), name)
                 self.assertEqual(found.__module__, f"foldvat.{file}", name)
                 self.assertEqual(list(inspect.signature(found).parameters), arguments.split(), name)
+
+    def test_only_what_is_told_so_may_be_left_out(self):
+        for file, functions in INTERFACE.items():
+            for name in functions:
+                told = inspect.signature(getattr(import_module(f"foldvat.{file}"), name)).parameters.values()
+                left = {one.name: (one.default, one.kind) for one in told if one.default is not one.empty}
+                due = {"many": (64, inspect.Parameter.KEYWORD_ONLY)} if name == "looks" else {}
+                self.assertEqual(left, due, name)
 
 
 if __name__ == "__main__":

@@ -107,7 +107,7 @@ class Long(unittest.TestCase):
         # Where all lines are multiples of a size, the strip folds as one of so many times fewer places does.
         size = 10 ** 28 - 1
         for places, row in by_hand.mixed_cases(30):
-            wide = [deed if deed[0] == "turn" else (deed[0], deed[1] * size) for deed in row]
+            wide = by_hand.widened(row, size)
             piles = by_hand.courses(places, row)[-1]
             for place, (column, above, beneath, face) in by_hand.spots(piles).items():
                 for within in (0, 3, size - 1):

@@ -2,11 +2,22 @@
 
 import unittest
 
-from foldvat import errors, rows, spots
+from foldvat import bends, counts, dips, errors, rows, spots, vats
+
+
+def shown(places, row, dip, place, many):
+    """How the strip looks, all told by its place."""
+    return counts.looks(places, row, dip, place, many=many)
+
 
 PLACES = (5, 0, errors.NoPlaces)
 ROW = ([("over", 2)], [("over", 5)], errors.NoRow)
 PLACE = (4, 5, errors.NoPlace)
+NUMBER = (5, 6, errors.NoNumber)
+NTH = (0, -1, errors.NoNumber)
+DIP = (("above", 1, 0, 2), ("above", 1, 0, 3), errors.NoDip)
+DIPS = [(0, ("above", 1, 0, 4)), (1, ("below", 1, 0, 2))]
+VAT = (([("over", 2)], DIPS), ([("over", 5)], DIPS), errors.NoVat)
 
 # Of each function its arguments in their order: one that is right, one that is wrong, the refusal.
 CALLS = (
@@ -20,6 +31,22 @@ CALLS = (
     (spots.place_at, (PLACES, ROW, (2, 3, errors.NoColumn), (1, 2, errors.NoDepth))),
     (spots.run_now, (PLACES, ROW, (1, 2, errors.NoNumber), (2, 3, errors.NoColumn))),
     (spots.line_to, (PLACES, ROW, PLACE, (0, -1, errors.NoPlace))),
+    (bends.bend, (PLACES, ROW, (3, 4, errors.NoPlace))),
+    (bends.passing, (PLACES, ROW, (2, 3, errors.NoLine))),
+    (bends.bends, (PLACES, ROW)),
+    (bends.bends_below, (PLACES, ROW, NUMBER)),
+    (bends.nth_bend, (PLACES, ROW, ("hill", "flat", errors.NoKind), NTH)),
+    (dips.is_dip, (PLACES, ROW, ((), None, None))),
+    (dips.takes, (PLACES, ROW, DIP, PLACE)),
+    (dips.taken, (PLACES, ROW, DIP)),
+    (counts.taken_below, (PLACES, ROW, DIP, NUMBER)),
+    (counts.nth_taken, (PLACES, ROW, DIP, NTH)),
+    (shown, (PLACES, ROW, DIP, PLACE, (2000, 2001, errors.NoNumber))),
+    (vats.is_vat, (PLACES, ((), None, None))),
+    (vats.marks, (PLACES, VAT)),
+    (vats.marks_below, (PLACES, VAT, NUMBER)),
+    (vats.first_marked, (PLACES, VAT, ((0, 1), (1, 0), errors.NoMark))),
+    (vats.are_alike, (PLACES, VAT, (1, 2, errors.NoNumber), NTH)),
 )
 
 
@@ -48,6 +75,18 @@ class Order(unittest.TestCase):
                 self.assertRaises(errors.NoNumber, spots.run_now, 5, [], thing, thing)
                 self.assertRaises(errors.NoColumn, spots.run_now, 5, [], 0, thing)
                 self.assertRaises(errors.NoPlaces, rows.is_row, thing, thing)
+                self.assertRaises(errors.NoPlaces, bends.nth_bend, thing, thing, thing, thing)
+                self.assertRaises(errors.NoRow, bends.nth_bend, 5, [thing], thing, thing)
+                self.assertRaises(errors.NoKind, bends.nth_bend, 5, [], thing, thing)
+                self.assertRaises(errors.NoNumber, bends.nth_bend, 5, [], "hill", thing)
+                self.assertRaises(errors.NoPlaces, shown, thing, thing, thing, thing, thing)
+                self.assertRaises(errors.NoRow, shown, 5, [thing], thing, thing, thing)
+                self.assertRaises(errors.NoDip, shown, 5, [], thing, thing, thing)
+                self.assertRaises(errors.NoPlace, shown, 5, [], DIP[0], thing, thing)
+                self.assertRaises(errors.NoNumber, shown, 5, [], DIP[0], 0, thing)
+                self.assertRaises(errors.NoPlaces, vats.are_alike, thing, thing, thing, thing)
+                self.assertRaises(errors.NoVat, vats.are_alike, 5, thing, thing, thing)
+                self.assertRaises(errors.NoNumber, vats.are_alike, 5, VAT[0], thing, thing)
 
     def test_the_column_is_asked_of_its_own_time(self):
         self.assertRaises(errors.NoNumber, spots.run_now, 5, [("over", 2)], 2, 4)

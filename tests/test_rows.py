@@ -9,23 +9,6 @@ from tests import by_hand
 LONGEST = by_hand.LONGEST
 
 
-def no_rows_of_five():
-    """Things that are no row of a strip of five places."""
-    words = ["Over", "over ", "", "fold", "open", "up", b"over", None, 1, True, ("over",), by_hand.AlikeToAll(),
-             by_hand.Stubborn(), by_hand.Pretender(str)]
-    deeds = [(word, 1) for word in words] + [(word,) for word in words] + [("turning",), (b"turn",)]
-    deeds += [(), [], ("over",), ("under",), ("turn", 1), ("turn", None), ("turn", "turn"), ("over", 1, 1)]
-    deeds += [("under", 1, None), (1, "over"), ("over", (1,)), ("over", [1]), (("over", 1),), "turn", "over", "o1"]
-    deeds += [{"over": 1}, {"turn"}, {"turn": 1}, ("open",), ("dip", "above", 1, 0, 0)]
-    deeds += by_hand.neither_whole_nor_told()
-    deeds += [(word, line) for word in ("over", "under") for line in by_hand.no_whole_numbers(1, 4)]
-    things = [[deed] for deed in deeds] + [(("turn",), deed) for deed in deeds]
-    things += ["turn", "over", "", b"", ("turn",), ("over", 1), ["turn"], {("turn",)}, {("turn",): 1}, {0: ("turn",)}]
-    things += [iter([]), (deed for deed in ()), range(0), by_hand.Pretender(list), by_hand.Pretender(tuple)]
-    things += [thing for thing in by_hand.neither_whole_nor_told() if type(thing) not in (list, tuple)]
-    return things + [(1,), [1], [[]], [None]]
-
-
 class Places(unittest.TestCase):
     def test_one_and_the_most(self):
         for places in (1, 2, 10, LONGEST - 1, LONGEST):
@@ -77,7 +60,7 @@ class Rows(unittest.TestCase):
                     self.assertRaises(NoRow, columns, LONGEST, form([deed] * many))
 
     def test_what_is_none(self):
-        for number, thing in enumerate(no_rows_of_five()):
+        for number, thing in enumerate(by_hand.no_rows_of_five()):
             with self.subTest(number):
                 self.assertIs(is_row(5, thing), False)
                 self.assertRaises(NoRow, columns, 5, thing)

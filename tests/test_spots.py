@@ -2,10 +2,10 @@
 
 import unittest
 
-from foldvat.errors import NoColumn, NoDepth, NoNumber, NoPlace, NoPlaces, NoRow
+from foldvat.errors import NoColumn, NoDepth, NoNumber, NoPlace
 from foldvat.rows import columns, layers
 from foldvat.spots import line_to, place_at, run_now, spot, way_of
-from tests import by_hand
+from tests import by_hand, heads
 
 LONGEST = by_hand.LONGEST
 THREE = [("over", 2), ("turn",), ("under", 1)]
@@ -173,27 +173,10 @@ class Lines(unittest.TestCase):
                 self.assertRaises(NoPlace, line_to, 5, [], place, place)
 
 
-class Heads(unittest.TestCase):
-    """What all of them refuse ahead of all else."""
-
+class Heads(heads.Heads, unittest.TestCase):
     def calls(self, places, row):
         return [(spot, places, row, 0), (way_of, places, row, 0), (place_at, places, row, 0, 0),
                 (run_now, places, row, 0, 0), (line_to, places, row, 0, 0)]
-
-    def test_no_places(self):
-        for number, places in enumerate(by_hand.no_whole_numbers(1, LONGEST)):
-            for call in self.calls(places, []):
-                with self.subTest((call[0], number)):
-                    self.assertRaises(NoPlaces, *call)
-
-    def test_no_row(self):
-        others = [[("over", 5)], [("turn",)] * 41, ["turn"], [("under", 1.0)], [("over", 1), ("over", 4)], [None]]
-        for number, row in enumerate(by_hand.neither_whole_nor_told() + others):
-            if type(row) in (list, tuple) and len(row) == 0:
-                continue
-            for call in self.calls(5, row):
-                with self.subTest((call[0], number)):
-                    self.assertRaises(NoRow, *call)
 
 
 if __name__ == "__main__":
