@@ -28,7 +28,8 @@ def is_among(thing, least, most):
 
 def is_listing(thing):
     """Whether a thing, anything, is a list or a tuple."""
-    return type(thing) in (list, tuple)
+    # No `in`: a class may compare as it likes, too.
+    return type(thing) is list or type(thing) is tuple
 
 
 def check_places(places):

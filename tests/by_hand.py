@@ -37,6 +37,20 @@ class StubbornList(list):
     __len__ = __iter__ = __bool__ = __getitem__ = Stubborn._no
 
 
+class Agreeing(type):
+    """A class of classes that are equal to everything."""
+
+    def __eq__(cls, other):
+        return True
+
+    def __hash__(cls):
+        return 0
+
+
+class OfAgreeingClass(metaclass=Agreeing):
+    """A thing whose class is equal to everything."""
+
+
 class Pretender:
     """A thing that says that it is of another class."""
 
@@ -52,7 +66,17 @@ def neither_whole_nor_told():
     """Things of other kinds than a whole number."""
     return [None, True, False, 1.0, 0.0, float("nan"), 2j, "1", "", b"1", (), (1,), [], [1], {}, {1: 1}, set(), {1},
             frozenset(), object(), int, len, range(3), Exception(), AlikeToAll(), Stubborn(), StubbornList(),
-            Pretender(int), Pretender(bool)]
+            Pretender(int), Pretender(bool), OfAgreeingClass()]
+
+
+def is_listing(thing):
+    """Whether a thing, anything, is a list or a tuple."""
+    return type(thing) is list or type(thing) is tuple
+
+
+def neither_whole_nor_listing():
+    """Things of other kinds than a whole number, a list or a tuple."""
+    return [thing for thing in neither_whole_nor_told() if not is_listing(thing)]
 
 
 def no_whole_numbers(least, most):
@@ -73,7 +97,7 @@ def no_rows_of_five():
     things = [[deed] for deed in deeds] + [(("turn",), deed) for deed in deeds]
     things += ["turn", "over", "", b"", ("turn",), ("over", 1), ["turn"], {("turn",)}, {("turn",): 1}, {0: ("turn",)}]
     things += [iter([]), (deed for deed in ()), range(0), Pretender(list), Pretender(tuple)]
-    things += [thing for thing in neither_whole_nor_told() if type(thing) not in (list, tuple)]
+    things += neither_whole_nor_listing()
     return things + [(1,), [1], [[]], [None]]
 
 

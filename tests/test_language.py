@@ -25,7 +25,7 @@ BARRED = set("register mro elements open input law version_info with_traceback a
 METHODS = set("append clear copy count endswith extend find get index insert isalnum isalpha isdigit islower isspace "
               "isupper items join keys ljust lower lstrip partition pop remove replace reverse rfind rjust rpartition "
               "rsplit rstrip setdefault split splitlines startswith strip update upper values zfill bit_length add "
-              "discard __init__".split())
+              "discard isascii __init__".split())
 LET = (ast.Assign, ast.AugAssign, ast.AnnAssign, ast.If, ast.While, ast.For, ast.Return, ast.Break, ast.Continue,
        ast.Pass, ast.Raise, ast.Assert, ast.Delete, ast.Nonlocal, ast.Match, ast.With, ast.Try, ast.Expr,
        ast.FunctionDef, ast.ClassDef, ast.ImportFrom)
@@ -42,6 +42,17 @@ INTERFACE = {
                "looks": "places row dip place many"},
     "vats": {"is_vat": "places thing", "marks": "places vat", "marks_below": "places vat number",
              "first_marked": "places vat mark", "are_alike": "places vat one other"},
+    "patterns": {"is_pattern": "thing", "beginnings": "pattern", "row_for": "pattern", "shut": "pattern",
+                 "shut_holds": "pattern paper"},
+    "strips": {"strip_of": "places history"},
+    "texts": {"show": "places history", "read": "text"},
+}
+CLASSES = {
+    ("strips", "Strip"): {"__init__": "places", "fold": "way line", "turn": "", "open_up": "",
+                          "dip": "side depth first last", "places": "", "row": "", "history": "", "dips": "",
+                          "__len__": "", "spot": "place", "dyes": "place", "paper": "place", "taken": "dip",
+                          "taken_below": "dip number", "nth_taken": "dip number", "marks": "dips"},
+    ("desk", "Desk"): {"__init__": "", "say": "row"},
 }
 
 
@@ -134,7 +145,7 @@ class Code(unittest.TestCase):
         for name, node in nodes((ast.FunctionDef, ast.arg, ast.Name, ast.ClassDef, ast.Attribute)):
             told = [getattr(node, field) for field in ("name", "arg", "id", "attr") if hasattr(node, field)][0]
             self.assertNotIn(told, BARRED, name)
-            self.assertTrue(not told.startswith("__") or told == "__init__", (name, told))
+            self.assertTrue(not told.startswith("__") or told in ("__init__", "__len__"), (name, told))
             if isinstance(node, (ast.FunctionDef, ast.arg, ast.ClassDef)):
                 self.assertNotIn(told, every, name)
             if isinstance(node, (ast.FunctionDef, ast.ClassDef)) and told != "__init__":
@@ -178,12 +189,56 @@ class Code(unittest.TestCase):
             self.assertTrue(free, ahead)
             ahead = {stem: others - set(free) for stem, others in ahead.items() if stem not in free}
 
+    def test_tables_are_only_read(self):
+        # A list or dict at module level is looked into, and never handed on or changed.
+        tables = {node.targets[0].id for _, node in nodes(ast.Assign)
+                  if isinstance(node.value, (ast.List, ast.Dict)) and isinstance(node.targets[0], ast.Name)
+                  and node.targets[0].id.isupper()}
+        self.assertEqual(tables, {"PARTNERS", "FORMS", "DEEDS", "ANSWERS"})
+        for file in FILES:
+            tree = ast.parse(file.read_text())
+            let = set()
+            for node in ast.walk(tree):
+                if isinstance(node, ast.Subscript) and isinstance(node.ctx, ast.Load):
+                    let.add(id(node.value))
+                elif isinstance(node, ast.Compare) and isinstance(node.ops[0], (ast.In, ast.NotIn)):
+                    let.add(id(node.comparators[0]))
+                elif isinstance(node, ast.Attribute) and node.attr == "get":
+                    let.add(id(node.value))
+            for node in ast.walk(tree):
+                if isinstance(node, ast.Name) and node.id in tables and isinstance(node.ctx, ast.Load):
+                    self.assertIn(id(node), let, (file.name, node.id, node.lineno))
+
+    def test_what_stands_beside_a_star(self):
+        for name, node in nodes(ast.Call):
+            stars = [at for at, one in enumerate(node.args) if isinstance(one, ast.Starred)]
+            for one in node.args[stars[0]:] if stars else []:
+                told = one.value if isinstance(one, ast.Starred) else one
+                self.assertIsInstance(told, (ast.Name, ast.Attribute, ast.Constant), (name, node.lineno))
+
+    def test_handlers_catch_own_errors_alone(self):
+        own = set(dir(import_module("foldvat.errors")))
+        for name, node in nodes(ast.ExceptHandler):
+            self.assertIsInstance(node.type, ast.Name, name)
+            self.assertIn(node.type.id, own, name)
+
     def test_lambdas(self):
         lines = [(name, node.lineno) for name, node in nodes(ast.Lambda)]
         self.assertEqual(len(lines), len(set(lines)))
 
 
 class Interface(unittest.TestCase):
+    def test_methods_stand_in_their_classes(self):
+        for (file, name), methods in CLASSES.items():
+            found = getattr(import_module(f"foldvat.{file}"), name)
+            self.assertEqual((found.__module__, found.__mro__[1:]), (f"foldvat.{file}", (object,)), name)
+            own = {told for told in vars(found) if not told.startswith("_") or told in ("__init__", "__len__")}
+            self.assertEqual(own, set(methods), name)
+            for method, arguments in methods.items():
+                told = inspect.signature(vars(found)[method]).parameters
+                self.assertEqual(list(told), ["self", *arguments.split()], (name, method))
+                self.assertEqual({one.default for one in told.values()}, {inspect.Parameter.empty}, (name, method))
+
     def test_functions_stand_in_their_files(self):
         for file, functions in INTERFACE.items():
             where = import_module(f"foldvat.{file}")

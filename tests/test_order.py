@@ -2,12 +2,32 @@
 
 import unittest
 
-from foldvat import bends, counts, dips, errors, rows, spots, vats
+from foldvat import bends, counts, dips, errors, patterns, rows, spots, strips, texts, vats
 
 
 def shown(places, row, dip, place, many):
     """How the strip looks, all told by its place."""
     return counts.looks(places, row, dip, place, many=many)
+
+
+def worked():
+    """A Strip of five places that is folded and dipped twice."""
+    return strips.strip_of(5, [("over", 2), ("dip", "above", 1, 0, 2), ("dip", "below", 1, 0, 2)])
+
+
+def fold(way, line):
+    """Folds a Strip on which not yet forty deeds stand."""
+    return worked().fold(way, line)
+
+
+def full_fold(way, line):
+    """Folds a Strip on which forty deeds stand."""
+    return strips.strip_of(60, [("over", 1)] * 40).fold(way, line)
+
+
+def full_dip(depth):
+    """Dips a Strip on which forty dips were done."""
+    return strips.strip_of(5, [("dip", "above", 1, 0, 2)] * 40).dip("above", depth, 0, 4)
 
 
 PLACES = (5, 0, errors.NoPlaces)
@@ -18,6 +38,10 @@ NTH = (0, -1, errors.NoNumber)
 DIP = (("above", 1, 0, 2), ("above", 1, 0, 3), errors.NoDip)
 DIPS = [(0, ("above", 1, 0, 4)), (1, ("below", 1, 0, 2))]
 VAT = (([("over", 2)], DIPS), ([("over", 5)], DIPS), errors.NoVat)
+
+DIP_NUMBER = (1, 2, errors.NoNumber)
+HISTORY = ([("over", 2)], [("over", 5)], errors.NoHistory)
+PATTERN = ("h-d", "h+d", errors.NoPattern)
 
 # Of each function its arguments in their order: one that is right, one that is wrong, the refusal.
 CALLS = (
@@ -47,6 +71,21 @@ CALLS = (
     (vats.marks_below, (PLACES, VAT, NUMBER)),
     (vats.first_marked, (PLACES, VAT, ((0, 1), (1, 0), errors.NoMark))),
     (vats.are_alike, (PLACES, VAT, (1, 2, errors.NoNumber), NTH)),
+    (patterns.beginnings, (PATTERN,)),
+    (patterns.row_for, (PATTERN,)),
+    (patterns.shut, (PATTERN,)),
+    (patterns.shut_holds, (PATTERN, ([], None, None))),
+    (strips.Strip, (PLACES,)),
+    (strips.strip_of, (PLACES, HISTORY)),
+    (fold, (("over", "up", errors.NoWay), (2, 3, errors.NoLine))),
+    (worked().spot, (PLACE,)),
+    (worked().dyes, (PLACE,)),
+    (worked().paper, (PLACE,)),
+    (worked().taken, (DIP_NUMBER,)),
+    (worked().taken_below, (DIP_NUMBER, NUMBER)),
+    (worked().nth_taken, (DIP_NUMBER, NTH)),
+    (worked().marks, (((1, 0), (1, 2), errors.NoVat),)),
+    (texts.show, (PLACES, HISTORY)),
 )
 
 
@@ -87,6 +126,34 @@ class Order(unittest.TestCase):
                 self.assertRaises(errors.NoPlaces, vats.are_alike, thing, thing, thing, thing)
                 self.assertRaises(errors.NoVat, vats.are_alike, 5, thing, thing, thing)
                 self.assertRaises(errors.NoNumber, vats.are_alike, 5, VAT[0], thing, thing)
+
+    def test_full_behind_all_else(self):
+        for way, line, due in (("up", 20, errors.NoWay), ("up", 1, errors.NoWay), ("over", 20, errors.NoLine),
+                               ("over", 19, errors.Full)):
+            with self.assertRaises(errors.FoldError) as caught:
+                full_fold(way, line)
+            self.assertIs(type(caught.exception), due)
+        self.assertRaises(errors.NoDip, full_dip, 0)
+        self.assertRaises(errors.Full, full_dip, 1)
+
+    def test_text_ahead_of_places_ahead_of_history(self):
+        for form in (0, 1):
+            for places in (0, 1):
+                for history in (0, 1):
+                    text = "strip " + ("5", "0")[places] + "\n" + ("over 2", "over 5")[history] + ("", "\n")[form]
+                    due = [errors.NoText] * form + [errors.NoPlaces] * places + [errors.NoHistory] * history
+                    if not due:
+                        self.assertEqual(texts.read(text), (5, [("over", 2)]))
+                    else:
+                        self.assertRaises(due[0], texts.read, text)
+
+    def test_no_pattern_ahead_of_too_many(self):
+        for call in (patterns.beginnings, patterns.row_for, patterns.shut):
+            self.assertRaises(errors.NoPattern, call, "h" * 300)
+            self.assertRaises(errors.NoPattern, call, "h" * 41 + "x")
+            self.assertRaises(errors.TooMany, call, "h" * 41)
+        self.assertRaises(errors.NoPattern, patterns.shut_holds, "h" * 300, None)
+        self.assertRaises(errors.TooMany, patterns.shut_holds, "h" * 41, None)
 
     def test_the_column_is_asked_of_its_own_time(self):
         self.assertRaises(errors.NoNumber, spots.run_now, 5, [("over", 2)], 2, 4)

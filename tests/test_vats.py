@@ -175,7 +175,7 @@ class First(unittest.TestCase):
                  iter(()), by_hand.Pretender(tuple)]
         wrong += [(number,) for number in by_hand.no_whole_numbers(0, 2)]
         wrong += [(0, number) for number in by_hand.no_whole_numbers(0, 2)]
-        wrong += [thing for thing in by_hand.neither_whole_nor_told() if type(thing) not in (list, tuple)]
+        wrong += by_hand.neither_whole_nor_listing()
         for number, mark in enumerate(wrong):
             with self.subTest(number):
                 self.assertRaises(NoMark, first_marked, 5, VAT, mark)
